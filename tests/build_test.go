@@ -1,6 +1,7 @@
 package tests
 
 import (
+	"math"
 	"math/rand"
 
 	"loop.example/g00585/impl"
@@ -128,6 +129,9 @@ func largeType(size int) impl.Type {
 }
 
 func decimal(n int) string {
+	if n == math.MinInt {
+		return "-9223372036854775808"
+	}
 	if n < 0 {
 		return "-" + decimal(-n)
 	}
