@@ -160,7 +160,7 @@ func TestLargeBodies(t *testing.T) {
 		{use("?1[x=x,y=x]", 299), true}, {use("(fst (?1[x=x],x))", 299), false}, {use("{1 1}[x=x,y=x]", 299), true}, {use("(fst {1 1}[x=x,y=x])", 299), false}, {use(`(\y:?.(x,x))`, 299), true}, {use(`(fst (\y:?.(x,x)))`, 299), false},
 		{use(`(\y:?.?1[x=(\y:?.x),z=x])`, 297), true}, {use(`(\y:?.?1[x=(\y:?.x),z=x])`, 299), false},
 		// what is not replaced does not count
-		{use(`((\x:?.(x,x)),x)`, 589), true}, {use("1", 595), true}, {use(`(\x:?.(x,(x,x)))`, 589), true}, {use("(if #f (x,x) 1)", 295), true}, {use("(if #f (x,x) 1)", 299), false}, {use("?1[x=1]", 595), true},
+		{use(`((\x:?.(x,x)),x)`, 589), true}, {use(`(snd ((\y:?.(x,x)),1))`, 297), true}, {use(`(snd ((\y:?.(x,x)),1))`, 299), false}, {use("1", 595), true}, {use(`(\x:?.(x,(x,x)))`, 589), true}, {use("(if #f (x,x) 1)", 295), true}, {use("(if #f (x,x) 1)", 299), false}, {use("?1[x=1]", 595), true},
 	} {
 		if got := impl.EvalCore(c.d, 1); c.fits != (got.Status == impl.EvDone) || !c.fits && resultWords(got) != "large 1" || got.Steps != 1 {
 			t.Errorf("a body of the size %d: %s", impl.SizeOfCore(c.d), briefly(got))

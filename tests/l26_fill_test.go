@@ -295,9 +295,8 @@ func TestBothWaysOfFilling(t *testing.T) {
 // A function that calls itself puts a hole into its own environment again and
 // again, so that the size of what is filled doubles each time.
 func TestFillingNestedEnvironments(t *testing.T) {
-	e := readExpr(`(((\h:(?>?).(\f:?.(((f f) 0) 5))) (\x:?.?1)) (\f:?.(\n:N.(\a:?.(if (n<9) (((f f) (n+1)) (f a)) a)))))`)
 	text := `((\h:(?>?).((\f:?.(((f f) 0) 5)) (\f:?.(\n:N.(\a:?.(if (n<N) (((f f) (n+1)) (h a)) a)))))) (\x:?.?1))`
-	e = readExpr(strings.ReplaceAll(text, "(n<N)", "(n<30)"))
+	e := readExpr(strings.ReplaceAll(text, "(n<N)", "(n<30)"))
 	first := impl.RunExpr(e, impl.MaxFuel)
 	if first.Status != impl.EvDone || len(impl.ClosuresOf(first.Value)) != 30 {
 		t.Fatal("the first evaluation", resultWords(first))
@@ -309,7 +308,28 @@ func TestFillingNestedEnvironments(t *testing.T) {
 			t.Errorf("RunAndResume with %s is %s, want %s", by, resultWords(got), want)
 		}
 	}
+	for _, wrapped := range []impl.Expr{ex(impl.ExPair, e, constant(1)), ex(impl.ExPair, constant(1), e), mark(2, e), stated(e, unknown())} {
+		first := impl.RunExpr(wrapped, impl.MaxFuel)
+		if got := impl.RunAndResume(wrapped, 1, readExpr("(x,x)"), impl.MaxFuel); first.Status != impl.EvDone || resultWords(got) != "bad "+decimal(first.Steps) {
+			t.Errorf("RunAndResume of %s is %s", exprWords(wrapped), resultWords(got))
+		}
+	}
 	// Just small enough, and just too large.
+	sum := readExpr("((((x+x)+(x+x))+((x+x)+(x+x)))+(((x+x)+(x+x))+((x+x)+x)))")
+	nine := readExpr("((((1,2),(3,4)),(5,6)),((7,8),(9,10)))")
+	e = ex(impl.ExAp, readExpr(`(\x:?.?1)`), nine)
+	for _, c := range []struct {
+		e    impl.Expr
+		size int
+	}{{e, 600}, {mark(2, e), 601}, {ex(impl.ExPair, e, constant(1)), 602}} {
+		d, _, _ := impl.Elaborate(nil, c.e)
+		filler, _ := impl.FillerOf(c.e, 1, sum)
+		filled := impl.FillCore(impl.EvalCore(d, 1).Value, 1, filler)
+		got := impl.RunAndResume(c.e, 1, sum, 1)
+		if impl.SizeOfCore(filled) != c.size || (got.Status == impl.EvDone) != (c.size == 600) || got.Status != impl.EvDone && resultWords(got) != "bad 1" {
+			t.Errorf("a result of %d nodes is filled: %s", impl.SizeOfCore(filled), briefly(got))
+		}
+	}
 	for n := range 12 {
 		e := readExpr(strings.ReplaceAll(text, "(n<N)", "(n<"+decimal(n)+")"))
 		d, _, _ := impl.Elaborate(nil, e)

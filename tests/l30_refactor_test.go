@@ -3,6 +3,7 @@ package tests
 import (
 	"math/rand"
 	"slices"
+	"strings"
 	"testing"
 
 	"loop.example/g00585/impl"
@@ -196,12 +197,15 @@ func TestEtaOfLargeTypes(t *testing.T) {
 	for _, c := range []struct{ a, b, argument string }{
 		{"(((N>N)>(N>N))>(?>?))", "(?>((B*B)>(B*B)))", "(((N>N)>(N>N))>((B*B)>(B*B)))"},
 		{"((N>N)>?)", "(?>(B*B))", "((N>N)>(B*B))"},
+		{"N", "?", "N"},
 		{"((((N>N)>(N>N))>((N>N)>N))>?)", "(?>B)", "((((N>N)>(N>N))>((N>N)>N))>B)"},
 		{"((((N>N)>(N>N))>((N>N)>N))>?)", "?", "((((N>N)>(N>N))>((N>N)>N))>?)"},
 		{"((((N>N)>(N>N))>((N>N)>N))>?)", "(?>(N>N))", ""},
 		{"((((N>N)>(N>N))>((N>N)>N))*?)", "(?*(((N>N)>(N>N))>((N>N)>N)))", ""},
 	} {
-		text := `(if #t (\f:` + c.a + `.1) (\f:` + c.b + `.1))`
+		// The result of the function is no note.
+		body := `.(\g:((((N>N)>(N>N))>((N>N)>N))>?).1)) `
+		text := `(if #t (\f:` + c.a + body + `(\f:` + c.b + strings.TrimSpace(body) + ")"
 		want := ""
 		if c.argument != "" {
 			want = `(\x:` + c.argument + `.(` + text + ` x))`

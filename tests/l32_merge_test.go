@@ -86,8 +86,8 @@ func TestConflictsOf(t *testing.T) {
 			t.Errorf("ConflictsOf(%s, %s, %s) = %s, want %s", exactExpr(c.base), exactExpr(c.a), exactExpr(c.b), got, c.want)
 		}
 	}
-	deep := impl.ConflictsOf(chainExpr(300, one), chainExpr(300, two), chainExpr(300, three))
-	if len(deep) != 1 || len(deep[0].Ours) != 299 || len(deep[0].Theirs) != 299 {
+	deep := impl.ConflictsOf(chainExpr(100000, one), chainExpr(100000, two), chainExpr(100000, three))
+	if len(deep) != 1 || len(deep[0].Ours) != 99999 || len(deep[0].Theirs) != 99999 {
 		t.Error("conflicts in deep expressions")
 	}
 }
